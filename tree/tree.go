@@ -2,10 +2,10 @@
 package tree
 
 import (
-	"iter"
 	"slices"
 
 	"acreage/api"
+	"acreage/climb"
 	"acreage/runs"
 )
 
@@ -45,7 +45,7 @@ func Line(l []api.Queue, q int) ([]int, api.Errno) {
 		return nil, e
 	}
 	var line []int
-	for p := range up(l, q) {
+	for p := range climb.Up(l, q) {
 		line = append(line, p)
 	}
 	return line, api.OK
@@ -58,7 +58,7 @@ func Under(l []api.Queue, q int) ([]bool, api.Errno) {
 	}
 	under := make([]bool, len(l))
 	for i := range l {
-		for p := range up(l, i) {
+		for p := range climb.Up(l, i) {
 			if p == q {
 				under[i] = true
 				break
@@ -77,17 +77,6 @@ func checkQueue(l []api.Queue, q int) api.Errno {
 		return api.ErrNone
 	}
 	return api.OK
-}
-
-// up goes up the line of queue q. It ends, as in right queues each Parent is less than its queue's own number.
-func up(l []api.Queue, q int) iter.Seq[int] {
-	return func(yield func(int) bool) {
-		for p := q; p >= 0; p = l[p].Parent {
-			if !yield(p) {
-				return
-			}
-		}
-	}
 }
 
 // sameName: have two queues the same name?
